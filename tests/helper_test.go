@@ -1,7 +1,9 @@
 package tests
 
 import (
+	"fmt"
 	"math"
+	"strings"
 	"testing"
 
 	"loop.example/g01302/impl"
@@ -42,6 +44,27 @@ func wantComplex(t *testing.T, got, want complex64, what string, args ...any) {
 	if complexBits(got) != complexBits(want) {
 		t.Errorf("%s%v: got %08x (%v), want %08x (%v)", what, args, complexBits(got), got, complexBits(want), want)
 	}
+}
+
+// told is a text of results that has numbers as bits.
+func told(results ...any) string {
+	var out strings.Builder
+	for _, r := range results {
+		switch v := r.(type) {
+		case float32:
+			r = bits(v)
+		case complex64:
+			r = complexBits(v)
+		case []float32:
+			r = bitsOfAll(v)
+		case []complex64:
+			r = bitsOfAllComplex(v)
+		case impl.Hill:
+			r = hillText(v)
+		}
+		fmt.Fprint(&out, r, "; ")
+	}
+	return out.String()
 }
 
 // wantThat is for results that are compared with ==.

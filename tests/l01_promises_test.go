@@ -14,21 +14,7 @@ import (
 // arguments, and returns the results as a text. Numbers are told by bits.
 func callAll(x, y float32, wide float64, n int64, s string, reals, others []float32, list, more []complex64, whole []int64) string {
 	var out strings.Builder
-	tell := func(results ...any) {
-		for _, r := range results {
-			switch v := r.(type) {
-			case float32:
-				r = bits(v)
-			case complex64:
-				r = complexBits(v)
-			case []float32:
-				r = bitsOfAll(v)
-			case []complex64:
-				r = bitsOfAllComplex(v)
-			}
-			fmt.Fprint(&out, r, " ")
-		}
-	}
+	tell := func(results ...any) { out.WriteString(told(results...)) }
 	two := func(a any, ok bool) { tell(a, ok) }
 	a, b := complex(x, y), complex(y, float32(wide))
 	tell(impl.SameNumber(x, y), impl.IsFinite(x), impl.BitsOf(x), impl.NarrowNumber(wide), impl.IsSubnormal(x), impl.FlushNumber(x))

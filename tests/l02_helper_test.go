@@ -26,25 +26,6 @@ func hillText(h impl.Hill) string {
 	return fmt.Sprintf("%dx%d %08x", h.Wide, h.High, bitsOfAll(h.Heights))
 }
 
-// told is a text of results that has numbers as bits.
-func told(results ...any) string {
-	var out strings.Builder
-	for _, r := range results {
-		switch v := r.(type) {
-		case float32:
-			r = bits(v)
-		case complex64:
-			r = complexBits(v)
-		case []float32:
-			r = bitsOfAll(v)
-		case impl.Hill:
-			r = hillText(v)
-		}
-		fmt.Fprint(&out, r, "; ")
-	}
-	return out.String()
-}
-
 // wantResults compares all results of a call with others.
 func wantResults(t *testing.T, got, want []any, what string, args ...any) {
 	t.Helper()
