@@ -2,6 +2,7 @@ package impl
 
 import (
 	"math"
+	"slices"
 	"strconv"
 	"strings"
 )
@@ -363,6 +364,11 @@ func CheckOf(start int64, s string) (int64, bool) {
 		check = (827*check + int64(s[i]) + 127) % CheckSize
 	}
 	return check, true
+}
+
+// allOf reports whether all of a list are as told.
+func allOf[T any](list []T, is func(x T) bool) bool {
+	return !slices.ContainsFunc(list, func(x T) bool { return !is(x) })
 }
 
 // unsignedBits returns the bits of the absolute value of a number.

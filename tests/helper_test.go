@@ -61,6 +61,12 @@ func told(results ...any) string {
 			r = bitsOfAllComplex(v)
 		case impl.Hill:
 			r = hillText(v)
+		case []impl.Storm:
+			r = stormsText(v)
+		case impl.Soil:
+			r = soilText(v)
+		case impl.Snow:
+			r = snowText(v)
 		}
 		fmt.Fprint(&out, r, "; ")
 	}

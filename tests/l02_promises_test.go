@@ -144,6 +144,10 @@ func spoil(results []any) {
 			}
 		case impl.Hill:
 			spoil(all(v.Heights))
+		case []impl.Storm:
+			for i := range v[:cap(v)] {
+				v[:cap(v)][i] = impl.Storm{Start: 77}
+			}
 		}
 	}
 }
