@@ -108,30 +108,18 @@ func drawnRain(d *drawer) rainArgs {
 
 func TestRainFunctionsReturnForAllArgumentsAndChangeNone(t *testing.T) {
 	d := drawer(340)
-	succeeded, failed := map[string]int{}, map[string]int{}
+	n := newTally()
 	for range 4000 {
 		a := drawnRain(&d)
 		before := rainText(a)
 		for _, f := range rainCalls {
-			first := f.call(a)
-			text := told(first...)
-			if first[len(first)-1].(bool) {
-				succeeded[f.name]++
-				wantFinite(t, first, f.name, before)
-			} else {
-				failed[f.name]++
-				wantFailed(t, first, f.name, before)
-			}
-			spoil(first) // what shares no memory stays as it is
-			wantThat(t, told(f.call(a)...), text, f.name+" again, with equal arguments")
+			n.callTwice(t, f.name, func() []any { return f.call(a) }, before)
 		}
 		wantThat(t, rainTests(a), rainTests(a), "tests again")
 		wantThat(t, rainText(a), before, "arguments behind all calls")
 	}
 	for _, f := range rainCalls {
-		if succeeded[f.name] < 200 || failed[f.name] < 50 {
-			t.Errorf("%s is tried too little: it succeeds %d times, and fails %d times", f.name, succeeded[f.name], failed[f.name])
-		}
+		n.wantTried(t, f.name, 200, 50)
 	}
 }
 
@@ -158,6 +146,35 @@ func wantFinite(t *testing.T, results []any, what string, args ...any) {
 		if !good {
 			t.Errorf("%s%v has the result %v", what, args, r)
 		}
+	}
+}
+
+// tally counts how often each function succeeds, and how often it fails.
+type tally struct{ succeeded, failed map[string]int }
+
+func newTally() tally { return tally{map[string]int{}, map[string]int{}} }
+
+// callTwice calls a function with arguments that are equal both times. All
+// results of the first call are written over: what shares no memory stays as it is.
+func (n tally) callTwice(t *testing.T, name string, call func() []any, args any) {
+	t.Helper()
+	first := call()
+	text := told(first...)
+	if first[len(first)-1].(bool) {
+		n.succeeded[name]++
+		wantFinite(t, first, name, args)
+	} else {
+		n.failed[name]++
+		wantFailed(t, first, name, args)
+	}
+	spoil(first)
+	wantThat(t, told(call()...), text, name+" again, with equal arguments")
+}
+
+func (n tally) wantTried(t *testing.T, name string, succeeded, failed int) {
+	t.Helper()
+	if n.succeeded[name] < succeeded || n.failed[name] < failed {
+		t.Errorf("%s is tried too little: it succeeds %d times, and fails %d times", name, n.succeeded[name], n.failed[name])
 	}
 }
 
