@@ -31,6 +31,8 @@ func TestBackStepByHand(t *testing.T) {
 		{wide, 740, 1, 1e8, notANumber}, {wide, 740, 1, 1, above(740)},
 		// the critical depth is the greatest one, where the head is infinite, or what is lost
 		{section(2, 0, 1, 1e-10), 1e10, 1e25, 1, notANumber}, {section(2, 0, 1, 1e17), 1e10, 1e10, 1, notANumber}, {section(2, 0, 1, 1), 1e10, 1e10, 1, 1000},
+		// there is no critical depth: both sides are infinite at 500, and the area is at 750
+		{section(6e35, 0, 1, 1), 100, 1e20, 1, notANumber}, {section(6e35, 0, 1, 1), 100, 1, 1, backOracle(section(6e35, 0, 1, 1), 100, 1, 1)},
 		// nothing can be told at the depth
 		{section(greatest, 0, 1, 1), 2, 1, 1, notANumber}, {section(1, 1e20, 1, 1), 2, 1, 1, notANumber}, {section(1, 1, 1, greatest), 2, 1, 1, notANumber}, {ditch(), 2e38, 1, 1, notANumber},
 	} {

@@ -33,6 +33,7 @@ func TestDepthsOfFlowsByHand(t *testing.T) {
 		{section(1, 0, 1, tiniest), 1, notANumber, criticalOracle(section(1, 0, 1, 1), 1)}, {section(1, 0, tiniest, greatest), 1, 1000, criticalOracle(section(1, 0, 1, 1), 1)},
 		// the third power of the area is infinite, and the other side is, or is not
 		{section(1e13, 0, 1e-8, 1e8), 1e-30, least, least}, {section(1e13, 0, 1e-8, 1e8), 1e19, 1000, 1000}, {section(1e13, 0, 1e-8, 1e8), 1e18, 1000, 1000}, {section(1e35, 0, tiniest, greatest), greatest, notANumber, 1000}, {section(1e35, 0, tiniest, greatest), 1, notANumber, least},
+		{section(6e35, 0, 1, 1), 1e20, notANumber, notANumber}, {section(6e35, 0, 1, 1), 1, notANumber, least},
 		// nothing is carried at 500 that is finite: too wide, or with too much of a bank
 		{section(greatest, 0, 1, 1), 1, notANumber, notANumber}, {section(1, greatest, 1, 1), 1, notANumber, notANumber}, {section(1, 1e36, 1, 1), 1, notANumber, notANumber}, {section(1, 1e20, 1, 1), 1e20, notANumber, criticalOracle(section(1, 1e20, 1, 1), 1e20)},
 	} {
@@ -238,6 +239,8 @@ func TestSidesAtTheirEnds(t *testing.T) {
 		{section(0.1, 0, 1, 1), 3e38, 1e17, notANumber, notANumber, notANumber},
 		// the area is infinite at a depth that is tried
 		{section(1, 6e32, 1, 1), 1, 1e25, notANumber, notANumber, notANumber},
+		// there is no critical depth, but a head
+		{section(6e35, 0, 1, 1), 100, 1e20, notANumber, notANumber, notANumber},
 		// the speed of the depth itself is too great, where it is a square
 		{ditch, 1e-20, 4, notANumber, 1000, notANumber},
 	} {
