@@ -122,10 +122,11 @@ func normalOracle(s impl.Section, flow float32) float32 {
 	return high
 }
 
-// heavyOracle tells both sides that are equal at the critical depth.
+// heavyOracle tells both sides that are equal at the critical depth. The third power
+// is one number, and gravity multiplies it last.
 func heavyOracle(s impl.Section, c, flow float32) (float32, float32) {
 	a := areaOracle(s, c)
-	return times(times(times(number(gravityBits), a), a), a), times(times(flow, need(flow, flow)), topOracle(s, c))
+	return times(number(gravityBits), times(times(a, a), a)), times(times(flow, need(flow, flow)), topOracle(s, c))
 }
 
 func criticalOracle(s impl.Section, flow float32) float32 {
