@@ -67,6 +67,10 @@ func told(results ...any) string {
 			r = soilText(v)
 		case impl.Snow:
 			r = snowText(v)
+		case [][]float32:
+			r = rowsText(v)
+		case impl.Canal:
+			r = canalText(v)
 		}
 		fmt.Fprint(&out, r, "; ")
 	}

@@ -148,6 +148,17 @@ func spoil(results []any) {
 			for i := range v[:cap(v)] {
 				v[:cap(v)][i] = impl.Storm{Start: 77}
 			}
+		case []complex64:
+			for i := range v[:cap(v)] {
+				v[:cap(v)][i] = 77
+			}
+		case [][]float32:
+			for i := range v[:cap(v)] {
+				spoil(all(v[:cap(v)][i]))
+				v[:cap(v)][i] = nil
+			}
+		case impl.Canal:
+			spoil(all(v.Highs, v.Flows))
 		}
 	}
 }

@@ -130,6 +130,12 @@ func TestWorkersAreAtAnEndWithTheCall(t *testing.T) {
 		impl.RainShared([]impl.Storm{storm(0, 1, 3e38, 0.5), storm(0, 1, 3e38, 0.5)}, 1, impl.MaxRain, impl.MaxWorkers)
 		impl.RainShared(nil, 1, 0, impl.MaxWorkers)
 	}
+	wantNoMoreWorkers(t, before)
+}
+
+// wantNoMoreWorkers checks that there are no more goroutines than before.
+func wantNoMoreWorkers(t *testing.T, before int) {
+	t.Helper()
 	// A goroutine that has told that it is at an end may still be there for a moment.
 	for range 500 {
 		if runtime.NumGoroutine() <= before {

@@ -142,6 +142,16 @@ func wantFinite(t *testing.T, results []any, what string, args ...any) {
 			good = validSoilOracle(v)
 		case impl.Snow:
 			good = validSnowOracle(v)
+		case []complex64:
+			for _, x := range v {
+				good = good && finite(real(x)) && finite(imag(x))
+			}
+		case [][]float32:
+			for _, list := range v {
+				good = good && allFinite(list)
+			}
+		case impl.Canal:
+			good = validCanalOracle(v)
 		}
 		if !good {
 			t.Errorf("%s%v has the result %v", what, args, r)

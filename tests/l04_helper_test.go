@@ -80,6 +80,18 @@ func (d *drawer) channel() impl.Section {
 	return s
 }
 
+// orOdd draws a number at a bound in place of one of a dozen.
+func (d *drawer) orOdd(x float32) float32 {
+	if d.next()%12 > 0 {
+		return x
+	}
+	odd := edgeNumbers()
+	return odd[d.next()%uint64(len(odd))]
+}
+
+// pick draws one of some integers.
+func (d *drawer) pick(list []int64) int64 { return list[d.next()%uint64(len(list))] }
+
 // isClose reports whether two numbers differ by a small part of them.
 func isClose(a, b, part float32) bool {
 	size := max(a, -a, b, -b)

@@ -66,14 +66,7 @@ func TestAllChannelFunctionsSucceed(t *testing.T) {
 // drawnChannel are arguments that are right, or nearly so, or wrong.
 func drawnChannel(d *drawer) channelArgs {
 	kinds := tame + int(d.next()%4)
-	odd := edgeNumbers()
-	drawn := func(x float32) float32 {
-		if d.next()%12 == 0 {
-			return odd[d.next()%uint64(len(odd))]
-		}
-		return x
-	}
-	pick := func(list []int64) int64 { return list[d.next()%uint64(len(list))] }
+	drawn, pick := d.orOdd, d.pick
 	s, flow := d.section(kinds), d.length(kinds)
 	if d.next()%2 == 0 {
 		s, flow = d.channel(), d.between(0.5, 300)
