@@ -153,11 +153,12 @@ func TestStepLakeFails(t *testing.T) {
 	inner := lake(floats(1, 2, 4), floats(0, 1, 2))
 	for _, store := range append(notFinite(), under(1), above(4), 0, minusZero, -1, 5, greatest, -greatest, tiniest) {
 		wantTold(t, all(impl.StepLake(inner, store, 1, 1, 1)), notANumber, "StepLake with the store", store)
-		wantResults(t, all(impl.RouteLake(inner, store, floats(1, 1), 1)), all(noFloats, noFloats, false), "RouteLake with the store", store)
+		for _, ins := range rows(floats(0), floats(1), floats(1, 1)) {
+			wantResults(t, all(impl.RouteLake(inner, store, ins, 1)), all(noFloats, noFloats, false), "RouteLake with the store", store, ins)
+		}
 	}
 	for _, store := range notFinite() {
 		wantTold(t, all(impl.LakeOut(inner, store)), notANumber, "LakeOut of the store", store)
-		wantResults(t, all(impl.RouteLake(inner, store, floats(1), 1)), all(noFloats, noFloats, false), "RouteLake of one in with the store", store)
 	}
 	for _, x := range invalidNumbers() {
 		wantTold(t, all(impl.StepLake(inner, 2, x, 1, 1)), notANumber, "StepLake with the in", x)
@@ -183,8 +184,8 @@ func TestRouteLakeByHand(t *testing.T) {
 		wantStore, wantOut []float32
 	}{
 		{pond(), 1, floats(0.5), 1, floats(1), floats(0.5)}, {pond(), 1, floats(0.5, 0.5, 0.5), 1, floats(1, 1, 1), floats(0.5, 0.5, 0.5)}, {basin(), 1, floats(1, 3, 1, 0), 1, floats(1, 3, 5, 5.5), floats(0, 0, 0, 0)}, {basin(), 6, floats(4, 4, 4), 1, floats(6, 8, 8), floats(0, 0, 0)}, {lake(floats(0, 8), floats(2, 2)), 5, floats(0, 0, 0, 0), 1, floats(5, above(3), number(0x3f800002), 0), floats(2, 2, 2, 2)}, {pond(), 0, floats(minusZero, minusZero), 1, floats(0, 0), floats(0, 0)},
-		// one in needs no step, so that the store can lie anywhere
-		{pond(), -3, floats(9), 1, floats(-3), floats(0)}, {pond(), 3, floats(9), 1, floats(3), floats(1)}, {pond(), minusZero, floats(0), 1, floats(minusZero), floats(0)}, {pond(), greatest, floats(greatest), greatest, floats(greatest), floats(1)},
+		// one in needs no step: the store is told as it is, from the first to the last of Stores
+		{pond(), 0, floats(9), 1, floats(0), floats(0)}, {pond(), 2, floats(9), 1, floats(2), floats(1)}, {pond(), tiniest, floats(0), 1, floats(tiniest), floats(0)}, {pond(), under(2), floats(0), 1, floats(under(2)), floats(under(1))}, {pond(), minusZero, floats(0), 1, floats(minusZero), floats(0)}, {pond(), 1, floats(greatest), greatest, floats(1), floats(0.5)}, {lake(floats(3, greatest), floats(1, 2)), greatest, floats(1), 1, floats(greatest), floats(2)}, {lake(floats(3, greatest), floats(1, 2)), 3, floats(1), 1, floats(3), floats(1)},
 	} {
 		wantResults(t, all(impl.RouteLake(c.l, c.store, c.ins, c.tick)), all(c.wantStore, c.wantOut, true), "RouteLake", c.l, c.store, c.ins, c.tick)
 	}
@@ -193,7 +194,24 @@ func TestRouteLakeByHand(t *testing.T) {
 	wantResults(t, all(impl.RouteLake(deep, 0, floats(1, greatest, greatest), 4)), failed, "RouteLake where the last step fails")
 	wantResults(t, all(impl.RouteLake(deep, 0, floats(greatest, greatest, 1, 1), 4)), failed, "RouteLake where the first step fails")
 	wantResults(t, all(impl.RouteLake(weirs(), 1, floats(1), 1)), failed, "RouteLake where LakeOut fails")
-	wantResults(t, all(impl.RouteLake(pond(), 3, floats(1, 1), 1)), failed, "RouteLake of more than the lake stores")
+}
+
+// The store is one that the lake can have, also where no tick is made with it.
+func TestRouteLakeBeginsInTheLake(t *testing.T) {
+	for _, l := range []impl.Lake{pond(), basin(), lake(floats(1, 2, 4), floats(0, 1, 1)), lake(floats(minusZero, tiniest), floats(0, 1)), lake(rising(impl.MaxLake), rising(impl.MaxLake)), lake(floats(5, under(greatest)), floats(0, 0))} {
+		first, last := l.Stores[0], l.Stores[len(l.Stores)-1]
+		for _, ins := range rows(floats(0), floats(1), floats(1, 1), make([]float32, impl.MaxRain)) {
+			for _, store := range floats(under(first), above(last), -tiniest, -1, -greatest, greatest) {
+				wantResults(t, all(impl.RouteLake(l, store, ins, 1)), all(noFloats, noFloats, false), "RouteLake", l, store, len(ins))
+			}
+			for _, store := range floats(first, last) {
+				stores, outs, ok := impl.RouteLake(l, store, ins, 1)
+				wantThat(t, ok && len(stores) == len(ins) && len(outs) == len(ins), true, "RouteLake", l, store, len(ins))
+				wantNumber(t, stores[0], store, "the first store of RouteLake", l, store)
+				wantNumber(t, outs[0], must(impl.LakeOut(l, store)), "the first out of RouteLake", l, store)
+			}
+		}
+	}
 }
 
 func TestRouteLakeAtItsLimits(t *testing.T) {
@@ -229,6 +247,13 @@ func TestLakesOfAllKinds(t *testing.T) {
 			if !ok {
 				routes++
 			}
+		}
+	}
+	for n := range 3000 {
+		l, in, tick := d.lake(1+n%amountKinds), d.rain(1, 1+n%amountKinds), d.length(tame)
+		for _, store := range floats(d.storeIn(l), d.amount(1+n%amountKinds), d.bitwise()) {
+			stores, outs, ok := routeLakeOracle(l, store, in, tick)
+			wantResults(t, all(impl.RouteLake(l, store, in, tick)), all(stores, outs, ok), "RouteLake of one in", l, store, in, tick)
 		}
 	}
 	wantThat(t, steps > 20 && routes > 10 && routes < 300, true, "StepLake and RouteLake are tried with lakes that fail, and that do not", steps, routes)

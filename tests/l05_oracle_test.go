@@ -138,7 +138,10 @@ func stepLakeOracle(l impl.Lake, store, in, next, tick float32) float32 {
 }
 
 func routeLakeOracle(l impl.Lake, store float32, ins []float32, tick float32) ([]float32, []float32, bool) {
-	if !insOracle(ins) || !amountsOracle(ins) || !amountOracle(tick) || tick == 0 {
+	if !validLakeOracle(l) || !insOracle(ins) || !amountsOracle(ins) || !amountOracle(tick) || tick == 0 {
+		return nil, nil, false
+	}
+	if !(l.Stores[0] <= store) || !(store <= l.Stores[len(l.Stores)-1]) {
 		return nil, nil, false
 	}
 	stores, outs := floats(store), floats(lakeOracle(l, store))
