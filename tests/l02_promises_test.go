@@ -159,6 +159,21 @@ func spoil(results []any) {
 			}
 		case impl.Canal:
 			spoil(all(v.Highs, v.Flows))
+		case [][]int64:
+			for i := range v[:cap(v)] {
+				spoil(all(v[:cap(v)][i]))
+				v[:cap(v)][i] = nil
+			}
+		case impl.River:
+			spoil(all(v.Downs, v.Wants))
+			for i := range v.Dams[:cap(v.Dams)] {
+				v.Dams[:cap(v.Dams)][i] = impl.Dam{Size: 77}
+			}
+		case []impl.River:
+			for i := range v[:cap(v)] {
+				spoil(all(v[:cap(v)][i]))
+				v[:cap(v)][i] = impl.River{}
+			}
 		}
 	}
 }

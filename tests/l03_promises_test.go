@@ -152,6 +152,12 @@ func wantFinite(t *testing.T, results []any, what string, args ...any) {
 			}
 		case impl.Canal:
 			good = validCanalOracle(v)
+		case impl.River:
+			good = validRiverOracle(v)
+		case []impl.River:
+			for _, river := range v {
+				good = good && validRiverOracle(river)
+			}
 		}
 		if !good {
 			t.Errorf("%s%v has the result %v", what, args, r)

@@ -44,8 +44,8 @@ var (
 // alike is a list of the same things.
 func alike[T any](count int, x T) []T { return slices.Repeat([]T{x}, count) }
 
-// with is a copy of a list with another number at a place.
-func with(list []float32, i int, x float32) []float32 {
+// with is a copy of a list with another thing at a place.
+func with[T any](list []T, i int, x T) []T {
 	list = slices.Clone(list)
 	list[i] = x
 	return list
