@@ -290,14 +290,16 @@ func TestRunManyDaysFailsWithOneRiver(t *testing.T) {
 	}
 }
 
-// Days are days also where no river asks for them.
+// Of no rivers none fails, whatever the days: only the workers can be wrong.
 func TestRunManyDaysOfNoRivers(t *testing.T) {
-	for workers := int64(1); workers <= impl.MaxCrew; workers++ {
+	fine := [][][]int64{nil, {}, evenDays(1, 1, 0), evenDays(impl.MaxDays, impl.MaxNodes, impl.MaxUnits)}
+	odd := append(wrongDays(), evenDays(1, impl.MaxNodes+1, 1), make([][]int64, impl.MaxDays+1), alike(1000, ints(-1)))
+	for _, dates := range append(fine, odd...) {
 		for _, list := range [][]impl.River{nil, {}} {
-			for _, dates := range [][][]int64{nil, {}, evenDays(1, 1, 0), evenDays(impl.MaxDays, impl.MaxNodes, impl.MaxUnits)} {
+			for workers := int64(1); workers <= impl.MaxCrew; workers++ {
 				wantResults(t, all(impl.RunManyDays(list, dates, workers)), all(noRivers, true), "RunManyDays without rivers", dates, workers)
 			}
-			for _, dates := range [][][]int64{evenDays(impl.MaxDays+1, 1, 0), days(ints(-1)), days(ints(impl.MaxUnits + 1)), days(ints(1), ints(0, -1))} {
+			for _, workers := range ints(0, -1, impl.MaxCrew+1, math.MaxInt64, math.MinInt64) {
 				wantResults(t, all(impl.RunManyDays(list, dates, workers)), all(noRivers, false), "RunManyDays without rivers", dates, workers)
 			}
 		}

@@ -206,13 +206,8 @@ func runDaysOracle(r impl.River, days [][]int64) (impl.River, [][]int64, []int64
 }
 
 func manyOracle(list []impl.River, days [][]int64, workers int64) ([]impl.River, bool) {
-	if len(list) > 12 || len(days) > 64 || workers < 1 || workers > 8 {
+	if len(list) > 12 || workers < 1 || workers > 8 {
 		return nil, false
-	}
-	for _, inflows := range days {
-		if !unitsOracle(inflows...) {
-			return nil, false
-		}
 	}
 	ends := noRivers
 	for _, r := range list {
