@@ -71,6 +71,12 @@ func told(results ...any) string {
 			r = rowsText(v)
 		case impl.Canal:
 			r = canalText(v)
+		case impl.Record:
+			r = recordsText(records(v))
+		case []impl.Record:
+			r = recordsText(v)
+		case string:
+			r = fmt.Sprintf("%q", v)
 		}
 		fmt.Fprint(&out, r, "; ")
 	}

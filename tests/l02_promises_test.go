@@ -174,6 +174,13 @@ func spoil(results []any) {
 				spoil(all(v[:cap(v)][i]))
 				v[:cap(v)][i] = impl.River{}
 			}
+		case impl.Record:
+			spoil(all(v.Values))
+		case []impl.Record:
+			for i := range v[:cap(v)] {
+				spoil(all(v[:cap(v)][i]))
+				v[:cap(v)][i] = impl.Record{}
+			}
 		}
 	}
 }

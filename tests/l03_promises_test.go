@@ -158,6 +158,12 @@ func wantFinite(t *testing.T, results []any, what string, args ...any) {
 			for _, river := range v {
 				good = good && validRiverOracle(river)
 			}
+		case impl.Record:
+			good = validRecordOracle(v)
+		case []impl.Record:
+			for _, record := range v {
+				good = good && validRecordOracle(record)
+			}
 		}
 		if !good {
 			t.Errorf("%s%v has the result %v", what, args, r)
@@ -178,7 +184,9 @@ func (n tally) callTwice(t *testing.T, name string, call func() []any, args any)
 	text := told(first...)
 	if first[len(first)-1].(bool) {
 		n.succeeded[name]++
-		wantFinite(t, first, name, args)
+		if name != "UnpackRecord" { // the values of records are any numbers
+			wantFinite(t, first, name, args)
+		}
 	} else {
 		n.failed[name]++
 		wantFailed(t, first, name, args)
