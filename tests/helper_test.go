@@ -75,7 +75,13 @@ func told(results ...any) string {
 			r = recordsText(records(v))
 		case []impl.Record:
 			r = recordsText(v)
+		case impl.Section:
+			r = sectionBits(v)
+		case impl.Desk:
+			r = deskBits(v)
 		case string:
+			r = fmt.Sprintf("%q", v)
+		case []string:
 			r = fmt.Sprintf("%q", v)
 		}
 		fmt.Fprint(&out, r, "; ")

@@ -181,6 +181,12 @@ func spoil(results []any) {
 				spoil(all(v[:cap(v)][i]))
 				v[:cap(v)][i] = impl.Record{}
 			}
+		case []string:
+			for i := range v[:cap(v)] {
+				v[:cap(v)][i] = "spoilt"
+			}
+		case impl.Desk:
+			spoil(all(v.Hill, v.River))
 		}
 	}
 }

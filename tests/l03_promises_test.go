@@ -152,6 +152,12 @@ func wantFinite(t *testing.T, results []any, what string, args ...any) {
 			}
 		case impl.Canal:
 			good = validCanalOracle(v)
+		case impl.Hill:
+			good = validHillOracle(v)
+		case impl.Section:
+			good = validSectionOracle(v)
+		case impl.Desk:
+			good = validDeskOracle(v)
 		case impl.River:
 			good = validRiverOracle(v)
 		case []impl.River:
